@@ -58,21 +58,25 @@ const (
 
 // Numbers that say of which kind a thing is.
 const (
-	executable  = 2
-	riscv       = 243
-	version     = 1
-	loaded      = 1
-	compressed  = 1
-	tableKind   = 2
-	textsKind   = 3
-	ofSection   = 3
-	ofFile      = 4
-	global      = 16
-	absolute    = 0xfff1
-	undefined   = 0
-	allRights   = 7
-	lowFourBits = 15
+	executable = 2
+	riscv      = 243
+	version    = 1
+	loaded     = 1
+	compressed = 1
+	tableKind  = 2
+	textsKind  = 3
+	ofSection  = 3
+	ofFile     = 4
+	global     = 16
+	absolute   = 0xfff1
+	undefined  = 0
 )
+
+// allRights are those that a part can have; as a number no others are above it.
+const allRights = api.R + api.W + api.X
+
+// lowFourBits of an entry's kind tell what it names; the others tell who sees it.
+const lowFourBits = 15
 
 // mirror turns the rights of a part as api counts them into those of a file, and back: R and X change places.
 func mirror(rights int) int {
