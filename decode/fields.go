@@ -3,6 +3,7 @@ package decode
 import (
 	"anvil/api"
 	"anvil/arith"
+	"anvil/opcode"
 )
 
 // Where parts of a long instruction begin.
@@ -19,27 +20,27 @@ const (
 func withFields(in api.Instr, raw uint32) api.Instr {
 	rd, rs1, rs2 := part(raw, 11, 7), part(raw, 19, 15), part(raw, 24, 20)
 	switch part(raw, 6, 0) {
-	case codeLui, codeAuipc:
+	case opcode.Lui, opcode.Auipc:
 		in.Rd, in.Imm = rd, immediateU(raw)
-	case codeJal:
+	case opcode.Jal:
 		in.Rd, in.Imm = rd, immediateJ(raw)
-	case codeJalr, codeLoad:
+	case opcode.Jalr, opcode.Load:
 		in.Rd, in.Rs1, in.Imm = rd, rs1, immediateI(raw)
-	case codeImmediate, codeImmediateWord:
+	case opcode.Immediate, opcode.ImmediateWord:
 		in.Rd, in.Rs1, in.Imm = rd, rs1, immediateOrAmount(raw)
-	case codeBranch:
+	case opcode.Branch:
 		in.Rs1, in.Rs2, in.Imm = rs1, rs2, immediateB(raw)
-	case codeStore:
+	case opcode.Store:
 		in.Rs1, in.Rs2, in.Imm = rs1, rs2, immediateS(raw)
-	case codeRegister, codeRegisterWord:
+	case opcode.Register, opcode.RegisterWord:
 		in.Rd, in.Rs1, in.Rs2 = rd, rs1, rs2
-	case codeFence:
+	case opcode.Fence:
 		in.Rd, in.Rs1, in.Imm = rd, rs1, immediateN(raw)
-	case codeSystem:
+	case opcode.System:
 		if part(raw, 14, 12) != systemF3 {
 			in.Rd, in.Rs1, in.Imm = rd, rs1, immediateN(raw)
 		}
-	case codeAtomic:
+	case opcode.Atomic:
 		in.Rd, in.Rs1, in.Rs2 = rd, rs1, rs2
 		in.Aq, in.Rl = part(raw, 26, 26) == 1, part(raw, 25, 25) == 1
 	}
@@ -79,15 +80,15 @@ func immediateOrAmount(raw uint32) int64 {
 }
 
 // place is a number where an instruction of an opcode has it: the way back from the immediates above.
-func place(opcode int, n uint32) uint32 {
-	switch opcode {
-	case codeLui:
+func place(code int, n uint32) uint32 {
+	switch code {
+	case opcode.Lui:
 		return move(n, 31, 12, 12)
-	case codeJal:
+	case opcode.Jal:
 		return move(n, 20, 20, 31) | move(n, 19, 12, 12) | move(n, 11, 11, 20) | move(n, 10, 1, 21)
-	case codeBranch:
+	case opcode.Branch:
 		return move(n, 12, 12, 31) | move(n, 11, 11, 7) | move(n, 10, 5, 25) | move(n, 4, 1, 8)
-	case codeStore:
+	case opcode.Store:
 		return move(n, 11, 5, 25) | move(n, 4, 0, 7)
 	}
 	return n << atImmediate

@@ -1,23 +1,8 @@
 package decode
 
-import "anvil/api"
-
-// The opcodes.
-const (
-	codeLoad          = 0x03
-	codeFence         = 0x0f
-	codeImmediate     = 0x13
-	codeAuipc         = 0x17
-	codeImmediateWord = 0x1b
-	codeStore         = 0x23
-	codeAtomic        = 0x2f
-	codeRegister      = 0x33
-	codeLui           = 0x37
-	codeRegisterWord  = 0x3b
-	codeBranch        = 0x63
-	codeJalr          = 0x67
-	codeJal           = 0x6f
-	codeSystem        = 0x73
+import (
+	"anvil/api"
+	"anvil/opcode"
 )
 
 // The f7 that tell operations with one opcode and one f3 apart.
@@ -50,39 +35,39 @@ const (
 func operation(raw uint32) int {
 	f3, f7 := part(raw, 14, 12), part(raw, 31, 25)
 	switch part(raw, 6, 0) {
-	case codeLui:
+	case opcode.Lui:
 		return api.OpLui
-	case codeAuipc:
+	case opcode.Auipc:
 		return api.OpAuipc
-	case codeJal:
+	case opcode.Jal:
 		return api.OpJal
-	case codeJalr:
+	case opcode.Jalr:
 		return jumps()[f3]
-	case codeBranch:
+	case opcode.Branch:
 		return branches()[f3]
-	case codeLoad:
+	case opcode.Load:
 		return loads()[f3]
-	case codeStore:
+	case opcode.Store:
 		return stores()[f3]
-	case codeImmediate:
+	case opcode.Immediate:
 		if isShift(f3) {
 			return pick(f7&^amountBit, shifts()[f3], otherShifts()[f3], api.OpIllegal)
 		}
 		return immediates()[f3]
-	case codeImmediateWord:
+	case opcode.ImmediateWord:
 		if isShift(f3) {
 			return pick(f7, wordShifts()[f3], otherWordShifts()[f3], api.OpIllegal)
 		}
 		return immediateWords()[f3]
-	case codeRegister:
+	case opcode.Register:
 		return pick(f7, plains()[f3], others()[f3], products()[f3])
-	case codeRegisterWord:
+	case opcode.RegisterWord:
 		return pick(f7, plainWords()[f3], otherWords()[f3], productWords()[f3])
-	case codeFence:
+	case opcode.Fence:
 		return fences()[f3]
-	case codeSystem:
+	case opcode.System:
 		return systemOp(raw, f3)
-	case codeAtomic:
+	case opcode.Atomic:
 		return atomicOp(raw, f3)
 	}
 	return api.OpIllegal

@@ -1,5 +1,7 @@
 package decode
 
+import "anvil/opcode"
+
 // Where parts of a parcel begin.
 const (
 	atPair = 5
@@ -29,28 +31,28 @@ const (
 
 // The long instructions that rows stand for, without registers and numbers.
 const (
-	longAddi  = codeImmediate
-	longAndi  = codeImmediate | 7<<atF3
-	longSlli  = codeImmediate | 1<<atF3
-	longSrli  = codeImmediate | 5<<atF3
+	longAddi  = opcode.Immediate
+	longAndi  = opcode.Immediate | 7<<atF3
+	longSlli  = opcode.Immediate | 1<<atF3
+	longSrli  = opcode.Immediate | 5<<atF3
 	longSrai  = longSrli | otherF7<<atF7
-	longAddiw = codeImmediateWord
-	longLui   = codeLui
-	longLw    = codeLoad | 2<<atF3
-	longLd    = codeLoad | 3<<atF3
-	longSw    = codeStore | 2<<atF3
-	longSd    = codeStore | 3<<atF3
-	longAdd   = codeRegister
-	longSub   = codeRegister | otherF7<<atF7
-	longXor   = codeRegister | 4<<atF3
-	longOr    = codeRegister | 6<<atF3
-	longAnd   = codeRegister | 7<<atF3
-	longAddw  = codeRegisterWord
-	longSubw  = codeRegisterWord | otherF7<<atF7
-	longJal   = codeJal
-	longJalr  = codeJalr
-	longBeq   = codeBranch
-	longBne   = codeBranch | 1<<atF3
+	longAddiw = opcode.ImmediateWord
+	longLui   = opcode.Lui
+	longLw    = opcode.Load | 2<<atF3
+	longLd    = opcode.Load | 3<<atF3
+	longSw    = opcode.Store | 2<<atF3
+	longSd    = opcode.Store | 3<<atF3
+	longAdd   = opcode.Register
+	longSub   = opcode.Register | otherF7<<atF7
+	longXor   = opcode.Register | 4<<atF3
+	longOr    = opcode.Register | 6<<atF3
+	longAnd   = opcode.Register | 7<<atF3
+	longAddw  = opcode.RegisterWord
+	longSubw  = opcode.RegisterWord | otherF7<<atF7
+	longJal   = opcode.Jal
+	longJalr  = opcode.Jalr
+	longBeq   = opcode.Branch
+	longBne   = opcode.Branch | 1<<atF3
 )
 
 // formsOf0 is the rows with q 0.

@@ -1,0 +1,89 @@
+package encode
+
+import "anvil/api"
+
+// form is how an operation is written: the bits that tell it, and the shape of the rest.
+type form struct {
+	bits  uint32
+	shape func() shape
+}
+
+// shape is where instructions have their fields, and which numbers Imm may be.
+type shape struct {
+	rd, rs1, rs2, imm layout
+	ordered           bool // Aq and Rl are there
+	reach             reach
+}
+
+// reach is the least and the greatest of some numbers, and what all of them are multiples of.
+type reach struct{ least, greatest, step int64 }
+
+// layout is where the bits of a number stand; nil: the number is not there at all.
+type layout []piece
+
+// piece is the bits high down to low of a number, which stand together: the lowest of them is bit at of the instruction.
+type piece struct{ high, low, at uint8 }
+
+// The bits that Aq and Rl are.
+const (
+	bitAq = 1 << 26
+	bitRl = 1 << 25
+)
+
+// registerCount is how many registers there are.
+const registerCount = 32
+
+// lay is a record's instruction in this form.
+func (f form) lay(in api.Instr) uint32 {
+	s := f.shape()
+	raw := f.bits | s.rd.lay(int64(in.Rd)) | s.rs1.lay(int64(in.Rs1)) | s.rs2.lay(int64(in.Rs2)) | s.imm.lay(in.Imm)
+	if in.Aq {
+		raw |= bitAq
+	}
+	if in.Rl {
+		raw |= bitRl
+	}
+	return raw
+}
+
+// lay is a number's bits where they stand.
+func (l layout) lay(n int64) uint32 {
+	all := uint32(0)
+	for _, p := range l {
+		mask := uint32(1)<<(p.high-p.low+1) - 1
+		all |= (uint32(n>>p.low) & mask) << p.at
+	}
+	return all
+}
+
+// holds tells whether a record has nothing that is not there in the shape, and no register that is none.
+func (s shape) holds(in api.Instr) bool {
+	registers := s.rd.names(in.Rd) && s.rs1.names(in.Rs1) && s.rs2.names(in.Rs2)
+	number := s.imm != nil || in.Imm == 0
+	order := s.ordered || !in.Aq && !in.Rl
+	return registers && number && order
+}
+
+// names tells whether a register can stand here.
+func (l layout) names(register int) bool {
+	if l == nil {
+		return register == 0
+	}
+	return register >= 0 && register < registerCount
+}
+
+// reaches tells whether Imm, where it is there, is one that it can be.
+func (s shape) reaches(imm int64) bool {
+	r := s.reach
+	return s.imm == nil || imm >= r.least && imm <= r.greatest && imm%r.step == 0
+}
+
+// signed is the reach of numbers of so many bits with a sign.
+func signed(bits int, step int64) reach {
+	return reach{-1 << (bits - 1), 1<<(bits-1) - step, step}
+}
+
+// unsigned is the reach of numbers of so many bits without one.
+func unsigned(bits int) reach {
+	return reach{0, 1<<bits - 1, 1}
+}
