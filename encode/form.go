@@ -1,6 +1,9 @@
 package encode
 
-import "anvil/api"
+import (
+	"anvil/api"
+	"anvil/layout"
+)
 
 // form is how an operation is written: the bits that tell it, and the shape of the rest.
 type form struct {
@@ -10,19 +13,13 @@ type form struct {
 
 // shape is where instructions have their fields, and which numbers Imm may be.
 type shape struct {
-	rd, rs1, rs2, imm layout
-	ordered           bool // Aq and Rl are there
-	reach             reach
+	layout.Fields
+	ordered bool // Aq and Rl are there
+	reach   reach
 }
 
 // reach is the least and the greatest of some numbers, and what all of them are multiples of.
 type reach struct{ least, greatest, step int64 }
-
-// layout is where the bits of a number stand; nil: the number is not there at all.
-type layout []piece
-
-// piece is the bits high down to low of a number, which stand together: the lowest of them is bit at of the instruction.
-type piece struct{ high, low, at uint8 }
 
 // The bits that Aq and Rl are.
 const (
@@ -36,7 +33,7 @@ const registerCount = 32
 // lay is a record's instruction in this form.
 func (f form) lay(in api.Instr) uint32 {
 	s := f.shape()
-	raw := f.bits | s.rd.lay(int64(in.Rd)) | s.rs1.lay(int64(in.Rs1)) | s.rs2.lay(int64(in.Rs2)) | s.imm.lay(in.Imm)
+	raw := f.bits | s.Lay(in)
 	if in.Aq {
 		raw |= bitAq
 	}
@@ -46,27 +43,17 @@ func (f form) lay(in api.Instr) uint32 {
 	return raw
 }
 
-// lay is a number's bits where they stand.
-func (l layout) lay(n int64) uint32 {
-	all := uint32(0)
-	for _, p := range l {
-		mask := uint32(1)<<(p.high-p.low+1) - 1
-		all |= (uint32(n>>p.low) & mask) << p.at
-	}
-	return all
-}
-
 // holds tells whether a record has nothing that is not there in the shape, and no register that is none.
 func (s shape) holds(in api.Instr) bool {
-	registers := s.rd.names(in.Rd) && s.rs1.names(in.Rs1) && s.rs2.names(in.Rs2)
-	number := s.imm != nil || in.Imm == 0
+	registers := names(s.Rd, in.Rd) && names(s.Rs1, in.Rs1) && names(s.Rs2, in.Rs2)
+	number := s.Imm != nil || in.Imm == 0
 	order := s.ordered || !in.Aq && !in.Rl
 	return registers && number && order
 }
 
-// names tells whether a register can stand here.
-func (l layout) names(register int) bool {
-	if l == nil {
+// names tells whether a register can stand somewhere.
+func names(at layout.Layout, register int) bool {
+	if at == nil {
 		return register == 0
 	}
 	return register >= 0 && register < registerCount
@@ -75,7 +62,7 @@ func (l layout) names(register int) bool {
 // reaches tells whether Imm, where it is there, is one that it can be.
 func (s shape) reaches(imm int64) bool {
 	r := s.reach
-	return s.imm == nil || imm >= r.least && imm <= r.greatest && imm%r.step == 0
+	return s.Imm == nil || imm >= r.least && imm <= r.greatest && imm%r.step == 0
 }
 
 // signed is the reach of numbers of so many bits with a sign.
