@@ -2,17 +2,8 @@ package csr
 
 import (
 	"anvil/api"
+	"anvil/mstatus"
 	"anvil/pmp"
-)
-
-// Mstatus' fields, and what UXL is always.
-const (
-	mieBit  = 1 << 3
-	mpieBit = 1 << 7
-	mppBits = api.M << 11
-	mprvBit = 1 << 17
-	twBit   = 1 << 21
-	uxl64   = 2 << 32
 )
 
 // The counters' bits in Mcounteren and Mcountinhibit.
@@ -26,7 +17,7 @@ const (
 const (
 	everyBit      = 1<<64 - 1
 	evenBits      = everyBit &^ 1
-	statusBits    = mieBit | mpieBit | mppBits | mprvBit | twBit
+	statusBits    = mstatus.Mie | mstatus.Mpie | mstatus.Mpp | mstatus.Mprv | mstatus.Tw
 	vectorBits    = everyBit &^ 2
 	interruptBits = 1<<3 | 1<<7 | 1<<11
 	enableBits    = cycleBit | timeBit | instretBit
@@ -58,15 +49,15 @@ func Proper(c api.Cpu) api.Cpu {
 // properStatus is what Mstatus can be of these bits: an MPP that is no mode becomes U.
 func properStatus(v uint64) uint64 {
 	if !namesMode(v) {
-		v &^= mppBits
+		v &^= mstatus.Mpp
 	}
-	return v&statusBits | uxl64
+	return v&statusBits | mstatus.Uxl64
 }
 
 // namesMode tells whether the MPP of these bits is a mode that the hart has.
 func namesMode(v uint64) bool {
-	mpp := v & mppBits
-	return mpp == 0 || mpp == mppBits
+	mode := mstatus.Before(v)
+	return mode == api.U || mode == api.M
 }
 
 // reserves tells whether there can be such a reservation.

@@ -2,6 +2,7 @@ package csr
 
 import (
 	"anvil/api"
+	"anvil/mstatus"
 	"anvil/pmp"
 )
 
@@ -32,7 +33,7 @@ func (s status) read() uint64 { return *s.at }
 
 func (s status) write(v uint64) {
 	if !namesMode(v) {
-		v = v&^mppBits | *s.at&mppBits
+		v = mstatus.WithBefore(v, mstatus.Before(*s.at))
 	}
 	*s.at = properStatus(v)
 }
