@@ -6,6 +6,7 @@ import (
 	"anvil/api"
 	"anvil/asm"
 	"anvil/image"
+	"anvil/valid"
 )
 
 // dataWord begins a line of bytes.
@@ -25,7 +26,7 @@ func (r *reader) addPart(rest []word) api.Errno {
 		return api.ErrLine
 	}
 	own := api.Seg{Addr: o[0].value, Size: o[1].value, Flags: flags}
-	if !liesInRam(own, r.deck.Ram) {
+	if !valid.Place(own, r.deck.Ram) {
 		return api.ErrSetting
 	}
 	if len(r.deck.Parts) >= api.MaxParts {
@@ -108,7 +109,7 @@ func (r *reader) load(im api.Image) error {
 		return fault(r.begun, api.ErrMany)
 	}
 	for _, own := range im.Segs {
-		if !liesInRam(own, r.deck.Ram) {
+		if !valid.Place(own, r.deck.Ram) {
 			return fault(r.begun, api.ErrSetting)
 		}
 	}

@@ -3,6 +3,7 @@ package deck
 import (
 	"anvil/api"
 	"anvil/csr"
+	"anvil/valid"
 )
 
 // The lines that a deck begins with, by how many of them were read.
@@ -105,7 +106,7 @@ func (r *reader) sayRam(first string, rest []word) api.Errno {
 	if first != "ram" || !is {
 		return api.ErrLine
 	}
-	if !isRam(o[0].value) {
+	if !valid.Ram(o[0].value) {
 		return api.ErrSetting
 	}
 	r.deck.Ram = int(o[0].value)
