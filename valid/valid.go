@@ -1,4 +1,4 @@
-// Package valid: which decks can be played, which deck tells and board begins with: see doc/15-board.md, section 15.1.
+// Package valid: which decks can be played, which deck tells and board begins with, and how much RAM there can be, which save asks too: see doc/15-board.md, section 15.1.
 package valid
 
 import "anvil/api"
